@@ -193,3 +193,20 @@ func TestRowsAreApart(t *testing.T) {
 		t.Errorf("a result shares memory with the ring: %v", ring)
 	}
 }
+
+// The list of rings has unused capacity, too.
+func TestListsOfRingsAreKept(t *testing.T) {
+	rings := [][]int64{{0, 1, 1}, {1}, {1, 0}, {0, 0, 0, 1}}
+	want := shown(rings)
+	for workers := int64(1); workers <= impl.MaxWorkers; workers++ {
+		ends, ok := impl.RunsShared(ruleNumber(t, 170), rings[:2], 1, workers)
+		wantOnly(t, "RunsShared", all(ends, ok), [][]int64{{1, 1, 0}, {1}})
+		for i := range ends[:cap(ends)] {
+			ends[:cap(ends)][i] = nil
+		}
+		wantNone(t, "RunsShared of too many steps", all(impl.RunsShared(ruleNumber(t, 170), rings[:2], impl.MaxSteps+1, workers)))
+	}
+	if got := shown(rings); got != want {
+		t.Errorf("the list of rings was changed: got %s, want %s", got, want)
+	}
+}
