@@ -93,10 +93,10 @@ func stepOf(t *testing.T, r impl.Rule, ring []int64) []int64 {
 	return next
 }
 
-// neighbourhoods returns all of them, in the order of their numbers.
-func neighbourhoods(states, reach int64) []string {
+// textsOf returns all texts of n states, in order.
+func textsOf(states, n int64) []string {
 	list := []string{""}
-	for range 2*reach + 1 {
+	for range n {
 		var longer []string
 		for _, s := range list {
 			for x := range states {
@@ -107,6 +107,9 @@ func neighbourhoods(states, reach int64) []string {
 	}
 	return list
 }
+
+// neighbourhoods returns all of them, in the order of their numbers.
+func neighbourhoods(states, reach int64) []string { return textsOf(states, 2*reach+1) }
 
 // digitAt returns the state at a place of a text.
 func digitAt(s string, i int) int64 { return int64(s[i] - '0') }
@@ -166,14 +169,16 @@ func succeeds(results []any) bool { return results[len(results)-1] == true }
 // wantLimits checks from where to where a parameter is accepted.
 func wantLimits(t *testing.T, what string, least, most int64, call func(n int64) []any) {
 	t.Helper()
-	for _, n := range []int64{least, least + 1, most - 1, most} {
-		if n >= least && n <= most && !succeeds(call(n)) {
+	const end = 1<<63 - 1
+	for _, n := range []int64{
+		-end - 1, -1 << 32, least - 2, least - 1, least, least + 1,
+		most - 1, most, most + 1, most + 2, 1 << 32, end,
+	} {
+		if n < least || n > most {
+			wantNone(t, what+" with "+strconv.FormatInt(n, 10), call(n))
+		} else if !succeeds(call(n)) {
 			t.Errorf("%s with %d: it failed", what, n)
 		}
-	}
-	const end = 1<<63 - 1
-	for _, n := range []int64{-end - 1, -1 << 32, least - 2, least - 1, most + 1, most + 2, 1 << 32, end} {
-		wantNone(t, what+" with "+strconv.FormatInt(n, 10), call(n))
 	}
 }
 

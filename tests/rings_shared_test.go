@@ -57,13 +57,12 @@ func TestRunsSharedLimits(t *testing.T) {
 	wantOnly(t, "RunsShared of rings of two lengths", all(impl.RunsShared(r, [][]int64{{1}, many(int64(1), impl.MaxRing)}, 5, 2)), [][]int64{one, two})
 }
 
-// All workers have ended when RunsShared returns, also where it fails.
-func TestWorkersEnd(t *testing.T) {
+// wantEnded checks that all workers have ended when a call returns.
+func wantEnded(t *testing.T, call func()) {
+	t.Helper()
 	before := runtime.NumGoroutine()
 	for range 200 {
-		impl.RunsShared(ruleNumber(t, 30), many([]int64{0, 1, 1}, 16), 50, impl.MaxWorkers)
-		impl.RunsShared(ruleNumber(t, 30), [][]int64{{2}, {0}, {0}}, 50, impl.MaxWorkers)
-		impl.RunsShared(ruleNumber(t, 30), [][]int64{{0}}, -1, impl.MaxWorkers)
+		call()
 	}
 	// A goroutine that has told that it is done may take a moment to go.
 	for range 100 {
@@ -73,6 +72,15 @@ func TestWorkersEnd(t *testing.T) {
 		time.Sleep(10 * time.Millisecond)
 	}
 	t.Errorf("%d goroutines more than before", runtime.NumGoroutine()-before)
+}
+
+// All workers have ended when RunsShared returns, also where it fails.
+func TestWorkersEnd(t *testing.T) {
+	wantEnded(t, func() {
+		impl.RunsShared(ruleNumber(t, 30), many([]int64{0, 1, 1}, 16), 50, impl.MaxWorkers)
+		impl.RunsShared(ruleNumber(t, 30), [][]int64{{2}, {0}, {0}}, 50, impl.MaxWorkers)
+		impl.RunsShared(ruleNumber(t, 30), [][]int64{{0}}, -1, impl.MaxWorkers)
+	})
 }
 
 // ringRoom is a list with unused capacity, and a report whether it was kept.
@@ -124,6 +132,39 @@ func wholeLists(results [][]any) [][]int64 {
 	return lists
 }
 
+// wantPure checks calls that take lists: they return the same for equal lists,
+// change none of them, nor their unused capacity, and share nothing with them.
+func wantPure(t *testing.T, what string, lists [][]int64, calls func(lists [][]int64) [][]any) {
+	t.Helper()
+	want := shownCalls(calls(lists))
+	rooms, given := make([]ringRoom, len(lists)), make([][]int64, len(lists))
+	for i, list := range lists {
+		rooms[i] = roomOf(list)
+		given[i] = rooms[i].list
+	}
+	again := calls(given)
+	if got := shownCalls(again); got != want {
+		t.Errorf("%s: got %s and then %s", what, want, got)
+	}
+	// What is written to a result is in no argument, and no other result.
+	for _, list := range wholeLists(again) {
+		for i := range list {
+			list[i] = -7
+		}
+	}
+	if slices.ContainsFunc(rooms, func(room ringRoom) bool { return !room.kept() }) {
+		t.Errorf("%s: an argument was changed, or is shared", what)
+	}
+	if got := shownCalls(calls(lists)); got != want {
+		t.Errorf("%s: got %s and later %s", what, want, got)
+	}
+}
+
+// withTable returns a rule with another table.
+func withTable(r impl.Rule, table []int64) impl.Rule {
+	return impl.Rule{States: r.States, Reach: r.Reach, Table: table}
+}
+
 // Promise 1: equal results for equal arguments, no argument is changed, and
 // nothing is shared.
 func TestRingsArePure(t *testing.T) {
@@ -134,30 +175,10 @@ func TestRingsArePure(t *testing.T) {
 			ring, other := l.states(size, states), l.states(size, states)
 			order, told := l.states(9, max(size, 1)), l.states((2*min(max(r.Reach, 0), 2)+1)*(states-1)+1, states)
 			b := l.rule(states, l.below(3))
-			want := shownCalls(allOfRings(r, b, ring, other, order, told))
 			lists := [][]int64{r.Table, b.Table, ring, other, order, told}
-			rooms := make([]ringRoom, len(lists))
-			for i, list := range lists {
-				rooms[i] = roomOf(list)
-			}
-			roomR := impl.Rule{States: r.States, Reach: r.Reach, Table: rooms[0].list}
-			roomB := impl.Rule{States: b.States, Reach: b.Reach, Table: rooms[1].list}
-			again := allOfRings(roomR, roomB, rooms[2].list, rooms[3].list, rooms[4].list, rooms[5].list)
-			if got := shownCalls(again); got != want {
-				t.Errorf("rule %v, ring %v: got %s and then %s", r, ring, want, got)
-			}
-			// What is written to a result is in no argument, and no other result.
-			for _, list := range wholeLists(again) {
-				for i := range list {
-					list[i] = -7
-				}
-			}
-			if slices.ContainsFunc(rooms, func(room ringRoom) bool { return !room.kept() }) {
-				t.Errorf("rule %v, ring %v: an argument was changed, or is shared", r, ring)
-			}
-			if got := shownCalls(allOfRings(r, b, ring, other, order, told)); got != want {
-				t.Errorf("rule %v, ring %v: got %s and later %s", r, ring, want, got)
-			}
+			wantPure(t, "rule "+shown(r)+"ring "+shown(ring), lists, func(lists [][]int64) [][]any {
+				return allOfRings(withTable(r, lists[0]), withTable(b, lists[1]), lists[2], lists[3], lists[4], lists[5])
+			})
 		}
 	}
 }
@@ -171,24 +192,29 @@ func shownCalls(calls [][]any) string {
 	return text
 }
 
-// No two lists of a result share memory, with their unused capacity.
+// wantApart checks that no two lists of a result share memory, with their
+// unused capacity.
+func wantApart(t *testing.T, result [][]int64) {
+	t.Helper()
+	lists := wholeLists([][]any{{result}})
+	for i, list := range lists {
+		for k := range list {
+			list[k] = int64(i)
+		}
+	}
+	for i, list := range lists {
+		if slices.ContainsFunc(list, func(x int64) bool { return x != int64(i) }) {
+			t.Errorf("the row %d shares memory with another one: %v", i, list)
+		}
+	}
+}
+
 func TestRowsAreApart(t *testing.T) {
 	r, ring := ruleNumber(t, 204), []int64{0, 1, 1, 0, 1}
 	rows, _ := impl.RowsOfRing(r, ring, impl.MaxRing)
 	ends, _ := impl.RunsShared(r, many(ring, 16), 0, 4)
-	for _, result := range [][][]int64{rows, ends} {
-		lists := wholeLists([][]any{{result}})
-		for i, list := range lists {
-			for k := range list {
-				list[k] = int64(i)
-			}
-		}
-		for i, list := range lists {
-			if slices.ContainsFunc(list, func(x int64) bool { return x != int64(i) }) {
-				t.Errorf("the row %d shares memory with another one: %v", i, list)
-			}
-		}
-	}
+	wantApart(t, rows)
+	wantApart(t, ends)
 	if !slices.Equal(ring, []int64{0, 1, 1, 0, 1}) {
 		t.Errorf("a result shares memory with the ring: %v", ring)
 	}
