@@ -143,6 +143,10 @@ func isZero(result any) bool {
 		return len(x) == 0
 	case impl.Rule:
 		return x.States == 0 && x.Reach == 0 && len(x.Table) == 0
+	case impl.Field:
+		return x.Rows == 0 && x.Columns == 0 && len(x.Cells) == 0
+	case []impl.Field:
+		return len(x) == 0
 	}
 	return false
 }

@@ -126,6 +126,12 @@ func wholeLists(results [][]any) [][]int64 {
 				}
 			case impl.Rule:
 				lists = append(lists, x.Table[:cap(x.Table)])
+			case impl.Field:
+				lists = append(lists, x.Cells[:cap(x.Cells)])
+			case []impl.Field:
+				for _, f := range x {
+					lists = append(lists, f.Cells[:cap(f.Cells)])
+				}
 			}
 		}
 	}
