@@ -28,6 +28,8 @@ func shown(results ...any) string {
 			for _, y := range x {
 				b.WriteString(shown(y))
 			}
+		case string, []string:
+			fmt.Fprintf(&b, "%q ", x)
 		default:
 			fmt.Fprintf(&b, "%v ", x)
 		}

@@ -137,6 +137,10 @@ func isZero(result any) bool {
 		return x == 0
 	case float32:
 		return bitsOf(x) == 0
+	case string:
+		return x == ""
+	case []string:
+		return len(x) == 0
 	case []int64:
 		return len(x) == 0
 	case [][]int64:
