@@ -151,6 +151,12 @@ func isZero(result any) bool {
 		return x.Rows == 0 && x.Columns == 0 && len(x.Cells) == 0
 	case []impl.Field:
 		return len(x) == 0
+	case []float32:
+		return len(x) == 0
+	case impl.Gas:
+		return x.Ways == 0 && x.Rows == 0 && x.Columns == 0 && len(x.Cells) == 0 && len(x.Walls) == 0
+	case impl.Flow:
+		return x.Rows == 0 && x.Columns == 0 && len(x.Parts) == 0 && len(x.Walls) == 0
 	}
 	return false
 }
