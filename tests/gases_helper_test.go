@@ -302,14 +302,20 @@ func roomed[T any](value T) (T, func() bool) {
 
 // shownBits tells a list so that all bits of its numbers are seen.
 func shownBits(list reflect.Value) string {
-	if numbers, ok := list.Interface().([]float32); ok {
-		bits := make([]uint32, len(numbers))
-		for i, x := range numbers {
-			bits[i] = math.Float32bits(x)
+	var bits []uint32
+	switch numbers := list.Interface().(type) {
+	case []float32:
+		for _, x := range numbers {
+			bits = append(bits, math.Float32bits(x))
 		}
-		return shown(bits)
+	case []complex64:
+		for _, z := range numbers {
+			bits = append(bits, math.Float32bits(real(z)), math.Float32bits(imag(z)))
+		}
+	default:
+		return shown(list.Interface())
 	}
-	return shown(list.Interface())
+	return shown(bits)
 }
 
 // wantPureOf checks calls that take an argument: they return the same for equal

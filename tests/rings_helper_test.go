@@ -157,6 +157,16 @@ func isZero(result any) bool {
 		return x.Ways == 0 && x.Rows == 0 && x.Columns == 0 && len(x.Cells) == 0 && len(x.Walls) == 0
 	case impl.Flow:
 		return x.Rows == 0 && x.Columns == 0 && len(x.Parts) == 0 && len(x.Walls) == 0
+	case complex64:
+		return bitsOf(real(x)) == 0 && bitsOf(imag(x)) == 0
+	case impl.Phases:
+		return x.Rows == 0 && x.Columns == 0 && len(x.Cells) == 0
+	case []impl.Rule:
+		return len(x) == 0
+	case impl.Saved:
+		return x.Name == "" && isZero(x.Rule) && isZero(x.Field)
+	case []impl.Saved:
+		return len(x) == 0
 	}
 	return false
 }
