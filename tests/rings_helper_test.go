@@ -167,6 +167,10 @@ func isZero(result any) bool {
 		return x.Name == "" && isZero(x.Rule) && isZero(x.Field)
 	case []impl.Saved:
 		return len(x) == 0
+	case impl.Life:
+		return len(x.Born) == 0 && len(x.Stay) == 0
+	case impl.Desk:
+		return isZero(x.Rule) && len(x.Ring) == 0 && isZero(x.Field) && isZero(x.Life)
 	}
 	return false
 }
